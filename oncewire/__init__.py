@@ -1,0 +1,1 @@
+"""Oncewire: programs whose names are used once, run by nets that meet."""
