@@ -20,11 +20,12 @@ class Look:
         if not holds:
             raise NoKind(self.name, at, why)
 
-    def knows(self, kind):
-        """Whether the program has all data kinds that stand in a kind."""
-        if isinstance(kind, str):
-            return kind in self.datas
-        return self.knows(kind[1]) and self.knows(kind[2])
+
+def is_of_datas(kind, datas):
+    """Whether all data kinds that stand in a kind are some of these."""
+    if isinstance(kind, str):
+        return kind in datas
+    return is_of_datas(kind[1], datas) and is_of_datas(kind[2], datas)
 
 
 def kinding(program, term, *, scope=()):
@@ -48,7 +49,7 @@ def let_by(program):
     told = {}
     for name, kind, term in program[1]:
         look = Look(program, name)
-        look.need(look.knows(kind), 0, "data")
+        look.need(is_of_datas(kind, look.datas), 0, "data")
         found, _ = look_at(look, term, {})
         look.need(found == kind, 0, "kind")
         told[name] = look.rows
@@ -78,7 +79,7 @@ def look_at_def(look, at, term, _):
 def look_at_function(look, at, term, scope):
     """A function's kind."""
     _, name, given, inner = term
-    look.need(look.knows(given), at, "data")
+    look.need(is_of_datas(given, look.datas), at, "data")
     told, used = look_at(look, inner, widened(scope, (name,), (given,)))
     kind = (">", given, told)
     look.need(is_kind(kind), at, "kind")

@@ -31,6 +31,11 @@ def is_row(thing, least, most):
     return isinstance(thing, tuple) and least <= len(thing) <= most
 
 
+def is_whole(thing):
+    """Whether a thing is a whole number; a truth is none."""
+    return isinstance(thing, int) and not isinstance(thing, bool)
+
+
 def are_unlike(names):
     """Whether no two of these names are alike."""
     return len(set(names)) == len(names)

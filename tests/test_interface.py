@@ -1,0 +1,61 @@
+"""Point 2 and the interface: names, arguments, where each thing is defined."""
+
+import importlib
+import inspect
+import unittest
+
+# What stands before "*" is handed in by places or names, what stands behind it by names alone.
+FUNCTIONS = {
+    "shapes": ["is_name(thing)", "is_kind(thing)", "is_shown(kind)", "is_term(thing)", "is_program(thing)", "parts(term)", "uses(term)",
+               "exchanged(program, names)"],
+    "texts": ["kind_text(kind)", "term_text(term)", "program_text(program)", "read_kind(text)", "read_term(text)",
+              "read_program(text)"],
+    "kinds": ["kinding(program, term, *, scope=())", "is_kinding(program, term, thing, *, scope=())", "let_by(program)"],
+    "meaning": ["meaning(program, f, *, most=2000)", "road_of(program, f)", "is_road(program, f, thing)"],
+    "nets": ["moves(net)", "alike(net, other)", "is_pairing(net, other, thing)"],
+    "runs": ["laid(book, net, move)", "started(book, f)"],
+}
+CLASSES = {
+    ("nets", "Net"): ["__init__(self)", "put(self, symbol, lower=0, *, at=None)", "tie(self, port, other)", "take_away(self, agent)",
+                      "numbers(self)", "symbol_of(self, agent)", "lower_of(self, agent)", "end_of(self, port)", "copy(self)",
+                      "__len__(self)", "__eq__(self, other)"],
+    ("books", "Book"): ["__init__(self, program, *, tight=False)", "symbols(self)", "lower(self, symbol)", "held(self, k)",
+                        "piece(self, symbol, other=None)", "saved(self, symbol, other=None)"],
+    ("runs", "Run"): ["__init__(self, book, f, *, net=None)", "moves_now(self)", "do(self, move)", "go(self, picks=(), *, most=2000)",
+                      "steps(self)", "counts(self)", "done(self)", "net_now(self)", "laid_now(self)", "copy(self)",
+                      "beat(self, *, hands=None)", "greatest(self)"],
+}
+
+
+def written(name, thing):
+    """A function's name and arguments as they are written here."""
+    return name + str(inspect.signature(thing))
+
+
+class Interface(unittest.TestCase):
+
+    def test_functions(self):
+        for file, rows in FUNCTIONS.items():
+            module = importlib.import_module("oncewire." + file)
+            for row in rows:
+                name = row.split("(")[0]
+                thing = vars(module)[name]
+                self.assertTrue(inspect.isfunction(thing))
+                self.assertEqual(thing.__module__, "oncewire." + file)
+                self.assertEqual(written(name, thing), row)
+
+    def test_classes(self):
+        for (file, name), rows in CLASSES.items():
+            made = vars(importlib.import_module("oncewire." + file))[name]
+            self.assertTrue(inspect.isclass(made))
+            self.assertEqual(made.__module__, "oncewire." + file)
+            for row in rows:
+                method = row.split("(")[0]
+                self.assertEqual(written(method, vars(made)[method]), row)
+
+    def test_most(self):
+        self.assertEqual(importlib.import_module("oncewire.meaning").MOST, 2000)
+
+
+if __name__ == "__main__":
+    unittest.main()
