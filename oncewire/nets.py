@@ -221,9 +221,11 @@ def found_pairing(net, other, agent, images, taken):
 
 
 def walked(net, other, agent, image):
-    """The pairing of all that hangs on an agent where it is paired with its image, or None."""
+    """The pairing of all that hangs on an agent where it is paired with its image, or None.
+
+    As many agents hang on the image: so where all ends go with ends, each of them is met just once.
+    """
     told = {agent: image}
-    taken = {image: agent}
     rows = [agent]
     while rows:
         one = rows.pop()
@@ -236,11 +238,10 @@ def walked(net, other, agent, image):
                 continue
             if end is None or facing is None or end[1] != facing[1]:
                 return None
-            if end[0] not in told and facing[0] not in taken:
+            if end[0] not in told:
                 told[end[0]] = facing[0]
-                taken[facing[0]] = end[0]
                 rows.append(end[0])
-            elif told.get(end[0]) != facing[0]:
+            elif told[end[0]] != facing[0]:
                 return None
     return told
 

@@ -465,6 +465,30 @@ class Alike(unittest.TestCase):
         self.check(ring([1500, 1501]), ring([1501, 1500]), True)
         self.check(ring([1500, 1501]), ring([1499, 1502]), False)
 
+    def test_rings_that_differ_far_from_where_one_begins(self):
+        def marked(size, marks, turned=(), tied=()):
+            net = Net()
+            for at in range(size):
+                net.put(("b" if at in marks else "a",), 2)
+            for one, after in tied:
+                net.tie((one, 2), (after, 2))
+            for at in range(size):
+                after = (at + 1) % size
+                net.tie((at, 0 if at in turned else 1), (after, 1 if after in turned else 0))
+            return net
+        self.check(marked(60, (0, 25)), marked(60, (7, 32)), True)
+        self.check(marked(60, (0, 25)), marked(60, (0, 35)), True)
+        self.check(marked(60, (0, 25)), marked(60, (0, 28)), False)
+        self.check(marked(60, (0, 20, 45)), marked(60, (0, 25, 45)), False)
+        self.check(marked(60, (0,), (25,)), marked(60, (3,), (28,)), True)
+        self.check(marked(60, (0,), (25,)), marked(60, (0,), (28,)), False)
+        self.check(marked(60, (), (0, 20, 45)), marked(60, (), (0, 25, 45)), False)
+        self.check(marked(60, (), (0, 20, 45)), marked(60, (), (1, 21, 46)), True)
+        self.check(marked(60, (), (), [(0, 20)]), marked(60, (), (), [(7, 27)]), True)
+        self.check(marked(60, (), (), [(0, 20)]), marked(60, (), (), [(0, 23)]), False)
+        self.check(marked(60, (), (), [(0, 20), (30, 45)]), marked(60, (), (), [(0, 30), (20, 45)]), False)
+        self.check(marked(60, (), (), [(0, 20), (30, 50)]), marked(60, (), (), [(10, 30), (40, 0)]), True)
+
     def test_many_agents(self):
         one, other = Net(), Net()
         for at in range(3000):
@@ -544,6 +568,19 @@ class Pairings(unittest.TestCase):
         net = net_of([("a", 0)] * 3, [])
         for row in itertools.permutations(range(3)):
             self.assertIs(is_pairing(net, net, dict(zip(range(3), row))), True)
+
+    def test_each_agent_just_once(self):
+        three, two = net_of([("a", 0)] * 3, []), net_of([("a", 0)] * 2, [])
+        for thing in ({0: 0, 1: 0, 2: 1}, {0: 1, 1: 1, 2: 1}, {0: 0, 1: 1}, {0: 0}, {}):
+            self.assertIs(is_pairing(three, three, thing), False)
+        for thing in ({0: 0, 1: 1}, {0: 0, 1: 1, 2: 1}, {0: 0, 1: 1, 2: 2}):
+            self.assertIs(is_pairing(three, two, thing), False)
+            self.assertIs(is_pairing(two, three, thing), False)
+        self.assertIsNone(alike(three, two))
+        # Tied: all that hangs together of the one is paired with one and the same of the other.
+        four = net_of([("a", 1)] * 4, [((0, 1), (1, 1)), ((2, 1), (3, 1))])
+        self.assertIs(is_pairing(four, four, {0: 0, 1: 1, 2: 0, 3: 1}), False)
+        self.assertIs(is_pairing(four, four, {0: 2, 1: 3, 2: 0, 3: 1}), True)
 
     def test_untied_ports(self):
         tied = net_of([("a", 1), ("a", 1)], [((0, 1), (1, 1))])
