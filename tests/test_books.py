@@ -122,7 +122,7 @@ class Symbols(unittest.TestCase):
             ("choose", 0, 0), ("choose", 10 ** 40 - 1), ("copy", "z"), ("copy", "q"), ("copy",), ("copy", "n", "n"), ("copy", ("n",)),
             ("drop", "f"), ("drop", []), ("drop",), ("def", "z"), ("def", "n"), ("def",), ("def", "f", "f"), ("def", 0), ("def", ["f"]),
             ["def", "f"], "def", ("Def", "f"), ("", "f"), (["def"], "f"), (0, "f"), (None, "f"), ({}, {}), ("in", "n"), ("fun", "n", True),
-            ("make", True), ("def", False), ((("def", "f"),),), {"def": "f"},
+            ("out", "n", "n", "n"), ("make", "z", 0, 0), ("choose", 0, 0, 0), ("make", True), ("def", False), ((("def", "f"),),), {"def": "f"},
         ]
         for thing in things:
             self.none(thing)

@@ -264,6 +264,59 @@ class Language(unittest.TestCase):
                     good = called or isinstance(over, (ast.Compare, ast.BinOp, ast.Assign))
                     self.assertTrue(good, (path.name, node.lineno))
 
+    def test_stars_in_calls(self):
+        """Behind a star stand names, attributes off a name, literals alone."""
+        for path, tree in trees():
+            for node in ast.walk(tree):
+                if isinstance(node, ast.Call):
+                    for one in [arg.value for arg in node.args if isinstance(arg, ast.Starred)]:
+                        inner = one.value if isinstance(one, ast.Attribute) else one
+                        self.assertIsInstance(inner, (ast.Name, ast.Constant, ast.List, ast.Tuple), (path.name, node.lineno))
+
+    def test_what_is_iterated_at_once(self):
+        """What range, zip, items and their like tell is neither sliced nor compared nor measured."""
+        barred = {"range", "zip", "enumerate", "reversed", "items", "keys", "values"}
+
+        def tells(node):
+            func = node.func if isinstance(node, ast.Call) else None
+            return getattr(func, "id", getattr(func, "attr", None)) in barred
+        for path, tree in trees():
+            for node in ast.walk(tree):
+                place = (path.name, getattr(node, "lineno", 0))
+                if isinstance(node, (ast.Subscript, ast.Return, ast.Attribute)) and node.value is not None:
+                    self.assertFalse(tells(node.value), place)
+                if isinstance(node, ast.Compare):
+                    self.assertFalse(any(tells(one) for one in [node.left] + node.comparators), place)
+                if isinstance(node, ast.Call) and getattr(node.func, "id", "") == "set":
+                    self.assertFalse(any(tells(one) for one in node.args), place)
+
+    def test_lambdas(self):
+        for path, tree in trees():
+            lines = [node.lineno for node in ast.walk(tree) if isinstance(node, ast.Lambda)]
+            self.assertEqual(len(lines), len(set(lines)), path)
+
+    def test_attributes(self):
+        """No name is a method and an attribute in one class; what is read is given somewhere."""
+        given, methods = set(), set()
+        for path, tree in trees():
+            for made in [node for node in ast.walk(tree) if isinstance(node, ast.ClassDef)]:
+                own = {one.name for one in made.body if isinstance(one, ast.FunctionDef)}
+                stored = {node.attr for node in ast.walk(made) if isinstance(node, ast.Attribute) and isinstance(node.ctx, ast.Store)}
+                self.assertEqual(own & stored, set(), (path.name, made.name))
+                given |= stored
+                methods |= own
+        for path, tree in trees():
+            for node in ast.walk(tree):
+                if isinstance(node, ast.Attribute) and isinstance(node.ctx, ast.Load):
+                    self.assertIn(node.attr, given | methods | METHODS, (path.name, node.lineno))
+
+    def test_methods_with_names_of_builtin_ones(self):
+        """They are called without keywords, as lists and texts have methods of these names."""
+        for path, tree in trees():
+            for node in ast.walk(tree):
+                if isinstance(node, ast.Call) and isinstance(node.func, ast.Attribute) and node.func.attr in METHODS - {"__init__"}:
+                    self.assertEqual(node.keywords, [], (path.name, node.lineno))
+
     def test_what_is_iterated_is_not_changed(self):
         changing = {"append", "pop", "clear", "extend", "insert", "remove", "reverse", "setdefault", "update", "sort"}
         for path, tree in trees():
