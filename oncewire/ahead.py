@@ -1,6 +1,6 @@
 """Pieces in which what can be done ahead is done."""
 
-from oncewire.laying import lay, ordered
+from oncewire.laying import lay, planned
 from oncewire.nets import Net, moves
 from oncewire.rules import step_of
 
@@ -9,14 +9,14 @@ def tightened(rules, piece):
     """A piece with what can be done ahead done, and the counts of that."""
     net = net_of_piece(piece)
     counts = {}
-    ways = ways_ahead(rules, net)
-    while ways:
+    plans = plans_ahead(rules, net)
+    while plans:
         # Moves have no agent in common: so each goes on to be one while the others are done.
-        for agents, inner in ways:
-            name = step_of(net.symbol_of(agents[0]), net.symbol_of(agents[1]))
+        for agents, plan in plans:
+            name = step_of(*plan.symbols)
             counts[name] = counts.get(name, 0) + 1
-            lay(net, agents, inner)
-        ways = ways_ahead(rules, net)
+            lay(net, agents, plan.piece, 0, {})
+        plans = plans_ahead(rules, net)
     return (piece_of_net(net), counts)
 
 
@@ -32,14 +32,14 @@ def net_of_piece(piece):
     return net
 
 
-def ways_ahead(rules, net):
-    """The moves of a net that can be done ahead, each as its agents, the giver ahead, with its piece."""
+def plans_ahead(rules, net):
+    """The plans of the moves of a net that can be done ahead, each behind its agents, the giver ahead."""
     told = []
     for move in moves(net):
-        agents, piece = ordered(rules, net, move)
+        plan = planned(rules, tuple([net.symbol_of(agent) for agent in move]))
         # Neither a def is opened ahead nor anything copied.
-        if len(agents) == 2 and piece is not None and net.symbol_of(agents[1])[0] != "copy":
-            told.append((agents, piece))
+        if len(move) == 2 and plan is not None and plan.symbols[1][0] != "copy":
+            told.append((move[::-1] if plan.turned else move, plan))
     return told
 
 

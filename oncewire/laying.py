@@ -1,88 +1,121 @@
 """A piece laid in a net, in the place of the agents of a move."""
 
-
-def ordered(book, net, move):
-    """The agents of a move, the giver ahead, and the piece that takes their place; the piece is None without a rule."""
-    if len(move) == 1:
-        return (move, book.piece(net.symbol_of(move[0])))
-    one, other = move
-    piece = book.piece(net.symbol_of(one), net.symbol_of(other))
-    if piece is None:
-        return ((other, one), book.piece(net.symbol_of(other), net.symbol_of(one)))
-    return (move, piece)
+from oncewire.errors import NoRule
+from oncewire.nets import NO_MEETERS
+from oncewire.rules import step_of
 
 
-def lay(net, agents, piece):
-    """Puts a piece into this very net where these agents were, the giver ahead.
+class Plan:
+    """What is done where agents open or meet: their symbols, the giver ahead, and the piece that is laid.
 
-    Told are the new agents' numbers and the wires that came: each with its two ends and the ports
-    (-1, j), (-2, j) of those that went whose old wires are in it.
+    It is turned where the giver is the second one of the move.
     """
-    outer = outer_ends(net, agents)
-    for agent in agents:
-        net.take_away(agent)
+
+    def __init__(self, symbols, piece, turned):
+        self.symbols = symbols
+        self.piece = piece
+        self.turned = turned
+
+
+def planned(book, symbols):
+    """The plan of a move of agents of these symbols, or None without a rule; the symbols may be any."""
+    piece = book.piece(*symbols)
+    if piece is not None or len(symbols) == 1:
+        return None if piece is None else Plan(symbols, piece, False)
+    turned = symbols[::-1]
+    piece = book.piece(*turned)
+    return None if piece is None else Plan(turned, piece, True)
+
+
+def needed_plan(book, symbols):
+    """The plan of a move of agents of these symbols."""
+    plan = planned(book, symbols)
+    if plan is None:
+        raise NoRule("no rule for these agents")
+    return plan
+
+
+def counts_of(tally):
+    """The counts of moves done, where it is told how often each plan was."""
+    told = {}
+    for plan, many in tally.items():
+        name = step_of(*plan.symbols)
+        told[name] = told.get(name, 0) + many
+    return told
+
+
+def laid_of(tally):
+    """How often each piece of a def and of a case was laid, where it is told how often each plan was."""
+    told = {}
+    for plan, many in tally.items():
+        if plan.symbols[0][0] == "def" or plan.symbols[1][0] == "choose":
+            told[plan.symbols] = told.get(plan.symbols, 0) + many
+    return told
+
+
+def lay(net, agents, piece, moment, times):
+    """Puts a piece into this very net where these agents were, the giver ahead; the moves that came.
+
+    The wires that come get this moment, or the greatest one of the old wires in them; times tells
+    the moments of wires by each of their two ports, where they aren't 0.
+    """
     symbols, ties = piece
-    numbers = [net.put(symbol, lower) for symbol, lower in symbols]
-    wires = spliced(inner_ends(ties, numbers), outer)
-    for one, other, _ in wires:
-        net.tie(one, other)
-    return (numbers, wires)
+    ends = net.ends
+    if len(agents) == 2:
+        for agent in agents:
+            del ends[(agent, 0)]
+            times.pop((agent, 0), None)
+    first = net.following
+    came = renewed(net, agents, symbols)
+    for (at, place), (to, seat) in ties:
+        time = moment
+        one = (first + at, place)
+        other = (first + to, seat)
+        # A port of those that went is a joint of two wires: what it was tied to, and this tie.
+        if at < 0:
+            joint = (agents[-1 - at], place)
+            time = max(time, times.pop(joint, 0))
+            one = ends.pop(joint, None)
+        if to < 0:
+            joint = (agents[-1 - to], seat)
+            time = max(time, times.pop(joint, 0))
+            other = ends.pop(joint, None)
+            if one == joint:
+                continue
+        if one is None or other is None:
+            untie(ends, times, other if one is None else one)
+            continue
+        ends[one] = other
+        ends[other] = one
+        times[one] = times[other] = time
+        if one[1] == 0 and other[1] == 0:
+            came.extend(meeting(net, one[0], other[0]))
+    return came
 
 
-def outer_ends(net, agents):
-    """What the ports that a piece names by (-1, j), (-2, j) are tied to, each other's by these names, too."""
-    names = {agent: -1 - at for at, agent in enumerate(agents)}
-    # The heads of two that meet face one another; of a def's agent there is nothing but its head.
-    first = 0 if len(agents) == 1 else 1
-    told = {}
+def renewed(net, agents, symbols):
+    """Takes agents out of the net's rows and puts new ones in; the moves of those that open."""
+    rows = net.rows
     for agent in agents:
-        for place in range(first, net.lower_of(agent) + 1):
-            end = net.end_of((agent, place))
-            if end is not None and end[0] in names:
-                end = (names[end[0]], end[1])
-            told[(names[agent], place)] = end
-    return told
+        del rows[agent]
+    came = []
+    for row in symbols:
+        number = net.following
+        rows[number] = row
+        net.following = number + 1
+        if row[0][0] == "def":
+            came.append((number,))
+    return came
 
 
-def inner_ends(ties, numbers):
-    """What each port of a piece is tied to in it, new agents by their numbers in the net."""
-    told = {}
-    for one, other in ties:
-        port, end = [(numbers[at], place) if at >= 0 else (at, place) for at, place in (one, other)]
-        told[port] = end
-        told[end] = port
-    return told
+def untie(ends, times, port):
+    """Unties a port, perhaps none, from what went."""
+    ends.pop(port, None)
+    times.pop(port, None)
 
 
-def spliced(inner, outer):
-    """The wires that come where old ends and those of a piece are put together.
-
-    A wire without an end at either side isn't met here, and one with one end alone isn't told.
-    """
-    back = {end: port for port, end in outer.items() if end is not None and end[0] >= 0}
-    starts = [port for port in inner if port[0] >= 0] + list(back)
-    done = set()
-    told = []
-    for start in starts:
-        if start not in done:
-            end, through = followed(start, inner, outer, back)
-            if end is not None:
-                done.add(end)
-                told.append((start, end, through))
-    return told
-
-
-def followed(start, inner, outer, back):
-    """The end of the wire that starts here, or None, and the ports of those that went on the way."""
-    through = []
-    at = start
-    if start in back:
-        at = back[start]
-        through.append(at)
-    at = inner[at]
-    while at is not None and at[0] < 0:
-        through.append(at)
-        at = outer[at]
-        if at is not None and at[0] < 0:
-            at = inner[at]
-    return (at, through)
+def meeting(net, agent, other):
+    """The move of two whose heads face one another, in a row of none or one."""
+    if net.rows[agent][0][0] in NO_MEETERS or net.rows[other][0][0] in NO_MEETERS:
+        return []
+    return [(agent, other) if agent < other else (other, agent)]

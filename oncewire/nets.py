@@ -4,6 +4,8 @@ from oncewire.errors import NoAgent, NoPort, Tied
 from oncewire.shapes import is_row, is_whole
 
 MOST_ROUNDS = 8
+# What heads that face one another don't meet by.
+NO_MEETERS = ("out", "def")
 
 
 class Net:
@@ -114,7 +116,7 @@ def move_from(net, agent):
     end = net.end_of((agent, 0))
     if sign == "out" or end is None or end[1] != 0 or end[0] < agent:
         return None
-    return None if net.symbol_of(end[0])[0] in ("out", "def") else (agent, end[0])
+    return None if net.symbol_of(end[0])[0] in NO_MEETERS else (agent, end[0])
 
 
 def is_move(net, thing):

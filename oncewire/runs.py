@@ -2,28 +2,25 @@
 
 from oncewire.defs import shown_def_of
 from oncewire.errors import NoMove, NoRule
-from oncewire.laying import lay, ordered
+from oncewire.laying import counts_of, laid_of, lay, needed_plan
 from oncewire.meaning import MOST
-from oncewire.nets import Net, is_move, move_from, moves, ports_of
-from oncewire.rules import step_of
+from oncewire.nets import Net, is_move, moves
+from oncewire.ways import place_of, put_way
 
 
 def laid(book, net, move):
     """The net that comes of a net where a move of it is done."""
-    agents, piece = allowed(book, net, move)
+    need_move(net, move)
+    plan = needed_plan(book, tuple([net.symbol_of(agent) for agent in move]))
     told = net.copy()
-    lay(told, agents, piece)
+    lay(told, move[::-1] if plan.turned else move, plan.piece, 0, {})
     return told
 
 
-def allowed(book, net, move):
-    """A move's agents, the giver ahead, and the piece that takes their place; the move may be anything."""
-    if not is_move(net, move):
+def need_move(net, thing):
+    """Refuses what is no move of a net."""
+    if not is_move(net, thing):
         raise NoMove("no move of the net")
-    agents, piece = ordered(book, net, move)
-    if piece is None:
-        raise NoRule("no rule for these agents")
-    return (agents, piece)
 
 
 def started(book, f):
@@ -39,83 +36,85 @@ def started(book, f):
 class Run:
     """A book, a net that goes on by moves, and what was done.
 
-    Numbers are never used again, so the moments of agents and ports that are gone may stay.
+    ages and times tell the moments of agents and of wires by their ports, where they aren't 0.
+    plans keeps what was found for symbols of the program, which alone surely fit a dict; strange
+    has the agents of a net by hand whose symbols are others.
     """
 
     def __init__(self, book, f, *, net=None):
         self.book = book
         self.net = started(book, f) if net is None else net.copy()
-        self.ways = {move: True for move in moves(self.net)}
+        self.ways = moves(self.net)
         self.log = []
         self.tally = {}
-        self.pieces_laid = {}
-        self.agent_moments = {agent: 0 for agent in self.net.numbers()}
-        self.wire_moments = {port: 0 for agent in self.net.numbers() for port in ports_of(self.net, agent)}
+        self.plans = {}
+        self.ages = {}
+        self.times = {}
         self.top = 0
+        self.strange = {agent: True for agent in self.net.numbers() if not book.rules.has(self.net.symbol_of(agent))}
 
     def moves_now(self):
         """The moves that can be done, rising."""
-        return sorted(self.ways)
+        return list(self.ways)
 
     def do(self, move):
         """Does a move."""
-        agents, piece = allowed(self.book, self.net, move)
-        symbols = tuple([self.net.symbol_of(agent) for agent in agents])
-        moment = self.moment_of(agents)
-        numbers, wires = lay(self.net, agents, piece)
-        for agent in numbers:
-            self.agent_moments[agent] = moment
-        for one, other, through in wires:
-            olds = [self.wire_moments[(agents[-1 - at], place)] for at, place in through]
-            self.wire_moments[one] = self.wire_moments[other] = max([moment] + olds)
-        self.note(move, symbols, moment)
-        del self.ways[move]
-        self.find_ways(numbers, wires)
+        need_move(self.net, move)
+        plan = self.plan_of(move)
+        del self.ways[place_of(self.ways, move)]
+        self.act(move, plan)
 
-    def moment_of(self, agents):
-        """The moment of a move of these agents."""
-        olds = [self.agent_moments[agent] for agent in agents]
-        if len(agents) == 2:
-            olds.append(self.wire_moments[(agents[0], 0)])
-        return 1 + max(olds)
+    def plan_of(self, move):
+        """The plan of a move."""
+        if len(self.strange) > 0 and any([agent in self.strange for agent in move]):
+            raise NoRule("no rule for these agents")
+        rows = self.net.rows
+        symbols = tuple([rows[agent][0] for agent in move])
+        plan = self.plans.get(symbols)
+        if plan is None:
+            plan = needed_plan(self.book, symbols)
+            self.plans[symbols] = plan
+        return plan
 
-    def note(self, move, symbols, moment):
-        """Puts down that a move was done."""
+    def act(self, move, plan):
+        """Does a move that is taken out of the ways already."""
+        ages = self.ages
+        olds = [ages.pop(agent, 0) for agent in move]
+        if len(move) == 2:
+            olds.append(self.times.get((move[0], 0), 0))
+        moment = 1 + max(olds)
+        first = self.net.following
+        came = lay(self.net, move[::-1] if plan.turned else move, plan.piece, moment, self.times)
+        for number in range(first, self.net.following):
+            ages[number] = moment
+        for way in came:
+            put_way(self.ways, way)
         self.log.append(move)
+        self.tally[plan] = self.tally.get(plan, 0) + 1
         self.top = max(self.top, moment)
-        name = step_of(*symbols)
-        self.tally[name] = self.tally.get(name, 0) + 1
-        if symbols[0][0] == "def" or symbols[1][0] == "choose":
-            self.pieces_laid[symbols] = self.pieces_laid.get(symbols, 0) + 1
-
-    def find_ways(self, numbers, wires):
-        """Finds the moves that came with new agents and wires."""
-        agents = list(numbers)
-        for one, other, _ in wires:
-            if one[1] == 0 and other[1] == 0:
-                agents.append(min(one[0], other[0]))
-        for agent in agents:
-            move = move_from(self.net, agent)
-            if move is not None:
-                self.ways[move] = True
 
     def go(self, picks=(), *, most=MOST):
         """Does so many moves at most, each picked by its number; whether no move is left."""
         many = 0
-        while many < most and self.ways:
-            rows = self.moves_now()
-            pick = picks[many] if many < len(picks) else 0
-            self.do(rows[pick % len(rows)])
+        ways = self.ways
+        while many < most and len(ways) > 0:
+            at = picks[many] % len(ways) if many < len(picks) else 0
+            plan = self.plan_of(ways[at])
+            self.act(ways.pop(at), plan)
             many += 1
-        return len(self.ways) == 0
+        return len(ways) == 0
 
     def beat(self, *, hands=None):
         """Does the first moves of those that there are now, as many as there are hands; how many."""
-        rows = self.moves_now()
-        if hands is not None:
-            rows = rows[:hands]
-        for move in rows:
-            self.do(move)
+        rows = list(self.ways) if hands is None else self.ways[:hands]
+        del self.ways[:len(rows)]
+        for at, move in enumerate(rows):
+            try:
+                plan = self.plan_of(move)
+            except NoRule:
+                self.ways = sorted(rows[at:] + self.ways)
+                raise
+            self.act(move, plan)
         return len(rows)
 
     def greatest(self):
@@ -128,7 +127,7 @@ class Run:
 
     def counts(self):
         """How many moves of each name were done."""
-        return {name: self.tally[name] for name in self.tally}
+        return counts_of(self.tally)
 
     def done(self):
         """The moves done, in their order."""
@@ -140,15 +139,18 @@ class Run:
 
     def laid_now(self):
         """How often each piece of a def and of a case was laid."""
-        return {symbols: self.pieces_laid[symbols] for symbols in self.pieces_laid}
+        return laid_of(self.tally)
 
     def copy(self):
         """A run that goes on by itself from here."""
-        other = Run(self.book, None, net=self.net)
-        other.log = self.done()
-        other.tally = self.counts()
-        other.pieces_laid = self.laid_now()
-        other.agent_moments = {agent: self.agent_moments[agent] for agent in self.agent_moments}
-        other.wire_moments = {port: self.wire_moments[port] for port in self.wire_moments}
+        other = Run(self.book, None, net=Net())
+        other.net = self.net.copy()
+        other.ways = list(self.ways)
+        other.log = list(self.log)
+        other.tally = {plan: many for plan, many in self.tally.items()}
+        other.plans = {symbols: plan for symbols, plan in self.plans.items()}
+        other.ages = {agent: moment for agent, moment in self.ages.items()}
+        other.times = {port: moment for port, moment in self.times.items()}
         other.top = self.top
+        other.strange = {agent: True for agent in self.strange}
         return other

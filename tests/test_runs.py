@@ -1,6 +1,7 @@
 """Points 2, 15, 16, 20 and 21: oncewire.runs."""
 
 import copy
+import time
 import unittest
 
 from oncewire.books import Book
@@ -409,6 +410,98 @@ class Runs(unittest.TestCase):
                         self.assertTrue(other.same(net))
                         self.assertEqual(run.greatest(), greatest)
                         self.assertEqual(run.steps(), step + 1)
+
+
+class LongRuns(unittest.TestCase):
+
+    def test_a_def_that_is_itself(self):
+        program = ((("d", (("m", ()),)),), (("f", "d", ("@", "f")),))
+        other = read_program("(= n (z) (s n)) (@ one n (# s (# z)))")
+        begun = time.process_time()
+        for _ in range(300):
+            self.assertIs(Run(Book(other), "one").go(), True)
+            run = Run(Book(program), "f")
+            self.assertIs(run.go(), False)
+            self.assertEqual((run.steps(), run.counts()), (2000, {("open", "f"): 2000}))
+        # One takes about 5 ms where it took 25 ms once; slow machines are given their time.
+        self.assertLess(time.process_time() - begun, 15)
+        self.assertEqual(run.done(), [(at,) for at in range(1, 2001)])
+        self.assertEqual((run.moves_now(), run.greatest(), run.laid_now()), ([(2001,)], 2000, {(("def", "f"),): 2000}))
+
+    def test_many_moves_at_once(self):
+        net = Net()
+        for _ in range(6000):
+            agent, other = net.put(("make", "z")), net.put(("drop", "n"))
+            net.tie((agent, 0), (other, 0))
+        begun = time.process_time()
+        for picks in ((), [-1] * 6000, [3 ** at % 10007 for at in range(6000)]):
+            run = Run(BOOK, None, net=net)
+            self.assertIs(run.go(picks, most=6000), True)
+            self.assertEqual(run.counts(), {("drop", "z"): 6000})
+            run = Run(BOOK, None, net=net)
+            while run.beat(hands=100):
+                pass
+            self.assertEqual(run.steps(), 6000)
+        self.assertLess(time.process_time() - begun, 30)
+
+    def test_moves_that_come_and_go_in_any_order(self):
+        """Moves come ahead of, among and behind those that there are: they stay rising, so the same are picked."""
+        luck = chance(46)
+        ahead = among = 0
+        for _ in range(60):
+            # Chains of functions that hand on come to meet in old numbers, defs and copies in new ones.
+            net = Net()
+            rows = [("fun", "n", "n"), ("call", "n", "n"), ("def", "two"), ("copy", "n"), ("drop", "n"), ("make", "z"), ("make", "s")]
+            for _ in range(40):
+                one = luck.choice(rows)
+                net.put(one, BOOK.lower(one))
+            heads = [(n, 0) for n in net.numbers()]
+            givers = [port for port in heads if net.symbol_of(port[0])[0] in ("fun", "def", "make")]
+            takers = [port for port in heads if port not in givers]
+            ports = [(n, place) for n in net.numbers() for place in range(1, net.lower_of(n) + 1)]
+            luck.shuffle(ports)
+            for way in (givers, takers):
+                luck.shuffle(way)
+            while givers and takers:
+                one, other = givers.pop(), takers.pop()
+                symbols = net.symbol_of(one[0]), net.symbol_of(other[0])
+                if symbols[0][0] == "def" or BOOK.piece(*symbols) is not None:
+                    net.tie(one, other)
+            while len(ports) > 1:
+                net.tie(ports.pop(), ports.pop())
+            for picks in ([0] * 80, [-1] * 80, [luck.randrange(99) for _ in range(80)]):
+                run, other = Run(BOOK, None, net=net), net.copy()
+                try:
+                    run.go(picks, most=80)
+                except NoRule:
+                    pass
+                for pick, move in zip(picks, run.done()):
+                    ways = moves(other)
+                    self.assertEqual(move, ways[pick % len(ways)])
+                    other = laid(BOOK, other, move)
+                    came = [way for way in moves(other) if way not in ways]
+                    ahead += any(way < ways[0] for way in came)
+                    among += any(ways[0] < way < ways[-1] for way in came)
+                self.assertEqual(run.moves_now(), moves(other))
+                self.assertEqual(run.net_now(), other)
+        self.assertGreater(ahead, 50)
+        self.assertGreater(among, 50)
+
+    def test_no_rule_puts_the_rest_of_a_beat_back(self):
+        net = Net()
+        for symbol in [("make", "z"), ("drop", "n"), ("make", "s"), ("drop", "n"), ("make", "no"), ("drop", "n"), ("make", "z"), ("drop", "n")]:
+            net.put(symbol, BOOK.lower(symbol))
+        for at in range(0, 8, 2):
+            net.tie((at, 0), (at + 1, 0))
+        net.tie((net.put(("def", "two")), 0), (2, 1))
+        for hands in (None, 3, 4, 5):
+            run = Run(BOOK, None, net=net)
+            with self.assertRaises(NoRule):
+                run.beat(hands=hands)
+            self.assertEqual(run.done(), [(0, 1), (2, 3)])
+            self.assertEqual(run.moves_now(), [(4, 5), (6, 7), (8,)])
+            run.do((8,))
+            self.assertEqual(run.moves_now(), [(4, 5), (6, 7), (9, 10)])
 
 
 class WhatIsTold(unittest.TestCase):
