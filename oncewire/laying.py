@@ -35,6 +35,15 @@ def needed_plan(book, symbols):
     return plan
 
 
+def kept_plan(book, plans, symbols):
+    """The plan of a move of agents of these symbols of the program, kept among the plans."""
+    plan = plans.get(symbols)
+    if plan is None:
+        plan = needed_plan(book, symbols)
+        plans[symbols] = plan
+    return plan
+
+
 def counts_of(tally):
     """The counts of moves done, where it is told how often each plan was."""
     told = {}

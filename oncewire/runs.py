@@ -2,25 +2,20 @@
 
 from oncewire.defs import shown_def_of
 from oncewire.errors import NoMove, NoRule
-from oncewire.laying import counts_of, laid_of, lay, needed_plan
+from oncewire.laying import counts_of, kept_plan, laid_of, lay, needed_plan
 from oncewire.meaning import MOST
 from oncewire.nets import Net, is_move, moves
-from oncewire.ways import place_of, put_way
+from oncewire.ways import gone_on, number_of, put_way
 
 
 def laid(book, net, move):
     """The net that comes of a net where a move of it is done."""
-    need_move(net, move)
+    if not is_move(net, move):
+        raise NoMove("no move of the net")
     plan = needed_plan(book, tuple([net.symbol_of(agent) for agent in move]))
     told = net.copy()
     lay(told, move[::-1] if plan.turned else move, plan.piece, 0, {})
     return told
-
-
-def need_move(net, thing):
-    """Refuses what is no move of a net."""
-    if not is_move(net, thing):
-        raise NoMove("no move of the net")
 
 
 def started(book, f):
@@ -59,22 +54,19 @@ class Run:
 
     def do(self, move):
         """Does a move."""
-        need_move(self.net, move)
-        plan = self.plan_of(move)
-        del self.ways[place_of(self.ways, move)]
-        self.act(move, plan)
+        self.do_at(number_of(self.ways, move))
+
+    def do_at(self, at):
+        """Does the move of this number."""
+        plan = self.plan_of(self.ways[at])
+        self.act(self.ways.pop(at), plan)
 
     def plan_of(self, move):
         """The plan of a move."""
         if len(self.strange) > 0 and any([agent in self.strange for agent in move]):
             raise NoRule("no rule for these agents")
         rows = self.net.rows
-        symbols = tuple([rows[agent][0] for agent in move])
-        plan = self.plans.get(symbols)
-        if plan is None:
-            plan = needed_plan(self.book, symbols)
-            self.plans[symbols] = plan
-        return plan
+        return kept_plan(self.book, self.plans, tuple([rows[agent][0] for agent in move]))
 
     def act(self, move, plan):
         """Does a move that is taken out of the ways already."""
@@ -95,14 +87,7 @@ class Run:
 
     def go(self, picks=(), *, most=MOST):
         """Does so many moves at most, each picked by its number; whether no move is left."""
-        many = 0
-        ways = self.ways
-        while many < most and len(ways) > 0:
-            at = picks[many] % len(ways) if many < len(picks) else 0
-            plan = self.plan_of(ways[at])
-            self.act(ways.pop(at), plan)
-            many += 1
-        return len(ways) == 0
+        return gone_on(self, picks, most)
 
     def beat(self, *, hands=None):
         """Does the first moves of those that there are now, as many as there are hands; how many."""

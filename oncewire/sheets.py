@@ -45,6 +45,15 @@ class Sheet:
         _, names, _ = self.terms[at][2][0]
         return without(self.used[self.within[at][1]], names)
 
+    def kind_of_used(self, at, name):
+        """The kind of a name that a part uses."""
+        while not isinstance(self.terms[at], str):
+            # The name may stand in other terms, too, but there for what they name themselves.
+            users = [inner for inner, (names, _) in zip(self.within[at], below(self.terms[at]))
+                     if name in self.used[inner] and name not in names]
+            at = users[0]
+        return self.kinds[at]
+
     def lower(self, at):
         """How many lower ports a part's agent has."""
         term = self.terms[at]

@@ -14,6 +14,11 @@ FUNCTIONS = {
     "meaning": ["meaning(program, f, *, most=2000)", "road_of(program, f)", "is_road(program, f, thing)"],
     "nets": ["moves(net)", "alike(net, other)", "is_pairing(net, other, thing)"],
     "runs": ["laid(book, net, move)", "started(book, f)"],
+    "wires": ["port_kind(book, symbol, place)", "unfit(book, net)", "way(net, *, port=None)", "ring_in(net)", "order_in(net)",
+              "is_ring(net, thing)", "is_order(net, thing)"],
+    "beats": ["beats(book, f, *, hands=None, most=2000)"],
+    "words": ["is_memory(book, thing)"],
+    "back": ["shown(net)", "is_ended(net)"],
 }
 CLASSES = {
     ("nets", "Net"): ["__init__(self)", "put(self, symbol, lower=0, *, at=None)", "tie(self, port, other)", "take_away(self, agent)",
@@ -24,6 +29,8 @@ CLASSES = {
     ("runs", "Run"): ["__init__(self, book, f, *, net=None)", "moves_now(self)", "do(self, move)", "go(self, picks=(), *, most=2000)",
                       "steps(self)", "counts(self)", "done(self)", "net_now(self)", "laid_now(self)", "copy(self)",
                       "beat(self, *, hands=None)", "greatest(self)"],
+    ("words", "Words"): ["__init__(self, book, f, *, room=4000)", "moves_now(self)", "do(self, move)", "go(self, picks=(), *, most=2000)",
+                         "steps(self)", "counts(self)", "done(self)", "net_now(self)", "laid_now(self)", "words(self)"],
 }
 
 

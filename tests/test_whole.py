@@ -2,14 +2,18 @@
 
 import unittest
 
+from oncewire.back import is_ended, shown
+from oncewire.beats import beats
 from oncewire.books import Book
 from oncewire.errors import TooLong
 from oncewire.kinds import let_by
 from oncewire.meaning import meaning, road_of
-from oncewire.nets import alike, is_pairing
+from oncewire.nets import alike, is_pairing, moves
 from oncewire.runs import Run
 from oncewire.shapes import is_shown
 from oncewire.texts import read_program
+from oncewire.wires import is_order, order_in, unfit, way
+from oncewire.words import Words, is_memory
 
 from chances import programs
 from samples import chance
@@ -92,6 +96,8 @@ class OneWorth(unittest.TestCase):
         told, agents = read_worth(run.net_now())
         self.assertEqual(told, worth)
         self.assertEqual(sorted(agents + [0]), run.net_now().numbers())
+        self.assertEqual(shown(run.net_now()), worth)
+        self.assertIs(is_ended(run.net_now()), True)
         self.assertEqual(run.net_now().symbol_of(0), ("out", {name: kind for name, kind, _ in program[1]}[f]))
         found = run.counts()
         for symbols, many in run.laid_now().items():
@@ -133,10 +139,30 @@ class OneWorth(unittest.TestCase):
                         self.assertEqual(run.steps(), steps)
                         self.assertEqual(run.counts(), counts)
                     nets.append((run.net_now(), run.laid_now(), run.greatest(), run.counts()))
+                self.by_words_and_hands(book, f, luck, nets[0], worth)
                 for net, rows, greatest, found in nets[1:]:
                     pairing = alike(nets[0][0], net)
                     self.assertIs(is_pairing(nets[0][0], net, pairing), True)
                     self.assertEqual((rows, greatest, found), nets[0][1:])
+
+    def by_words_and_hands(self, book, f, luck, told, worth):
+        """The same in words of memory; and how many beats there are by some hands."""
+        net, rows, greatest, found = told
+        steps = sum(found.values())
+        words = Words(book, f, room=10 ** 6)
+        row = picks(luck, steps)
+        half = luck.randrange(steps + 1)
+        words.go(row[:half], most=half)
+        self.assertIs(is_memory(book, words.words()), True)
+        self.assertIs(words.go(row[half:], most=steps), True)
+        self.assertEqual((words.steps(), words.counts(), words.laid_now(), shown(words.net_now())), (steps, found, rows, worth))
+        self.assertIs(is_ended(words.net_now()), True)
+        self.assertIsNotNone(alike(words.net_now(), net))
+        self.assertEqual(beats(book, f, most=steps), (greatest, steps))
+        for hands in (1, 2, 5, 100):
+            many, _ = beats(book, f, hands=hands, most=steps)
+            self.assertGreaterEqual(many, max(greatest, -(-steps // hands)))
+            self.assertLessEqual(many, greatest + (steps - greatest) // hands)
 
     def test_numbers(self):
         self.check(NUMBERS, chance(51), 9, 5000)
@@ -193,6 +219,12 @@ class NoEnd(unittest.TestCase):
                 run = Run(book, f)
                 for _ in range(9):
                     self.assertGreater(run.beat(), 0)
+                words = Words(book, f, room=10 ** 5)
+                self.assertIs(words.go(picks(luck, 150), most=150), False)
+                self.assertNotEqual(words.moves_now(), [])
+                for hands in (None, 1, 3):
+                    with self.assertRaises(TooLong):
+                        beats(book, f, hands=hands, most=300)
 
     def test_where_there_is_a_road(self):
         luck = chance(56)
@@ -212,7 +244,14 @@ class NoEnd(unittest.TestCase):
 class OnTheWay(unittest.TestCase):
     """At each moment of a run: no port is untied, each wire has one kind, no agents wait in a ring."""
 
-    def look_at(self, program, kinds, net):
+    def look_at(self, program, kinds, book, net):
+        self.assertEqual(unfit(book, net), [])
+        self.assertIs(is_order(net, order_in(net)), True)
+        agents, word = way(net)
+        self.assertIn(word, ("shown", "opens", "meets"))
+        if word != "shown":
+            # What out waits for is at once done or done next.
+            self.assertIn(tuple(agents[-1:] if word == "opens" else sorted(agents[-2:])), moves(net))
         waits = {}
         for n in net.numbers():
             symbol = net.symbol_of(n)
@@ -242,10 +281,14 @@ class OnTheWay(unittest.TestCase):
             for tight in (False, True):
                 book = Book(program, tight=tight)
                 for f in shown_defs(program):
+                    words = Words(book, f, room=10 ** 6)
+                    for _ in range(most // 2):
+                        self.look_at(program, kinds, book, words.net_now())
+                        words.go([luck.randrange(99)], most=1)
                     run = Run(book, f)
                     for _ in range(most):
                         net = run.net_now()
-                        self.look_at(program, kinds, net)
+                        self.look_at(program, kinds, book, net)
                         ways = run.moves_now()
                         if not ways:
                             self.assertEqual(read_worth(net)[0], meaning(program, f)[0])
