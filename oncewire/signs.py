@@ -119,10 +119,19 @@ SLOT_READERS = {
 
 def signs_of_program(reader):
     """A program: its data kinds, one or more, then its defs."""
+    return signs_of_rows(reader, "=")
+
+
+def signs_of_tell(reader):
+    """Data kinds, perhaps none, then defs, perhaps none, but one thing or more; there is nothing behind them."""
+    return signs_of_rows(reader, "=@")
+
+
+def signs_of_rows(reader, signs):
+    """Data kinds, then defs, up to the end; the first of them begins with one of these signs."""
     datas = []
     defs = []
-    signs = "="
-    while len(datas) == 0 or reader.peek() != "":
+    while len(datas) + len(defs) == 0 or reader.peek() != "":
         reader.take("(")
         if reader.take(signs) == "=":
             datas.append(signs_of_data(reader))

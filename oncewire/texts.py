@@ -4,6 +4,8 @@ from oncewire.errors import NoText
 from oncewire.shapes import FORMS, is_kind, is_program, is_term
 from oncewire.signs import Reader, signs_of_kind, signs_of_program, signs_of_term
 
+UNSHOWN = "."
+
 
 def kind_text(kind):
     """A kind as it is written."""
@@ -14,11 +16,23 @@ def kind_text(kind):
 
 def term_text(term):
     """A term as it is written, or a worth, however many parts it has."""
+    return text_with(term, "")
+
+
+def worth_text(worth):
+    """A worth as far as it is shown, with a point for what isn't."""
+    return text_with(worth, UNSHOWN)
+
+
+def text_with(term, unshown):
+    """A term as it is written, with this text in the place of None."""
     told = []
     rows = [term]
     while rows:
         one = rows.pop()
-        if isinstance(one, str):
+        if one is None:
+            told.append(unshown)
+        elif isinstance(one, str):
             told.append(one)
         else:
             rows.extend(spelled(one)[::-1])

@@ -19,6 +19,8 @@ FUNCTIONS = {
     "beats": ["beats(book, f, *, hands=None, most=2000)"],
     "words": ["is_memory(book, thing)"],
     "back": ["shown(net)", "is_ended(net)"],
+    "papers": ["is_run(book, f, thing, worth)", "paired(book, f, one, other)", "is_paired(book, f, one, other, thing)", "joined(book, f, one, other)"],
+    "lines": ["line_of(book, net)", "net_of(book, line)"],
 }
 CLASSES = {
     ("nets", "Net"): ["__init__(self)", "put(self, symbol, lower=0, *, at=None)", "tie(self, port, other)", "take_away(self, agent)",
@@ -31,6 +33,12 @@ CLASSES = {
                       "beat(self, *, hands=None)", "greatest(self)"],
     ("words", "Words"): ["__init__(self, book, f, *, room=4000)", "moves_now(self)", "do(self, move)", "go(self, picks=(), *, most=2000)",
                          "steps(self)", "counts(self)", "done(self)", "net_now(self)", "laid_now(self)", "words(self)"],
+    ("house", "House"): ["__init__(self)", "data(self, datas)", "define(self, defs)", "forget(self, f)", "begin(self, name, f, tight=False)",
+                         "go(self, name, picks=(), most=100)", "stop(self, name)", "send(self, name)", "take_up(self, name, parcel)",
+                         "mark(self, name)", "back(self, name)", "batch(self, deeds)", "program_now(self)", "runs_now(self)",
+                         "worth_now(self, name)", "is_ended_now(self, name)", "steps_now(self, name)", "counts_now(self, name)",
+                         "net_now(self, name)", "log_now(self)", "copy(self)"],
+    ("desk", "Desk"): ["__init__(self)", "say(self, row)"],
 }
 
 

@@ -5,13 +5,17 @@ import unittest
 from oncewire.back import is_ended, shown
 from oncewire.beats import beats
 from oncewire.books import Book
-from oncewire.errors import TooLong
+from oncewire.desk import Desk
+from oncewire.errors import OnceError, TooLong
+from oncewire.house import House
 from oncewire.kinds import let_by
+from oncewire.lines import line_of, net_of
 from oncewire.meaning import meaning, road_of
 from oncewire.nets import alike, is_pairing, moves
+from oncewire.papers import is_paired, is_run, joined, paired
 from oncewire.runs import Run
 from oncewire.shapes import is_shown
-from oncewire.texts import read_program
+from oncewire.texts import program_text, read_program, term_text
 from oncewire.wires import is_order, order_in, unfit, way
 from oncewire.words import Words, is_memory
 
@@ -201,6 +205,101 @@ class OneWorth(unittest.TestCase):
             self.check(program, luck, 5, 600)
             ended += 1
         self.assertGreater(ended, 80)
+
+
+class Together(unittest.TestCase):
+    """Runs stopped anywhere come together by just the moves that each one lacks; what is half-run is gone on with elsewhere."""
+
+    def run_of(self, book, f, luck, most):
+        run = Run(book, f)
+        run.go(picks(luck, 800), most=most)
+        return run
+
+    def test_joined(self):
+        luck = chance(58)
+        for program in (NUMBERS, ROWS, TREES, ENDLESS):
+            for tight in (False, True):
+                book = Book(program, tight=tight)
+                for f in shown_defs(program):
+                    for _ in range(3):
+                        runs = [self.run_of(book, f, luck, luck.randrange(120)) for _ in range(2)]
+                        behind = joined(book, f, *[run.done() for run in runs])
+                        for run, moves_behind in zip(runs, behind):
+                            for move in moves_behind:
+                                run.do(move)
+                        self.assertIsNotNone(alike(runs[0].net_now(), runs[1].net_now()))
+                        self.assertEqual(runs[0].steps(), runs[1].steps())
+                        self.assertEqual(runs[0].counts(), runs[1].counts())
+                        self.assertEqual(runs[0].greatest(), runs[1].greatest())
+                        self.assertEqual(joined(book, f, *[run.done() for run in runs]), ([], []))
+
+    def test_papers(self):
+        luck = chance(59)
+        for program in (NUMBERS, ROWS, TREES):
+            for tight in (False, True):
+                book = Book(program, tight=tight)
+                for f in shown_defs(program):
+                    worth, _ = meaning(program, f)
+                    one, other = [self.run_of(book, f, luck, 2000).done() for _ in range(2)]
+                    self.assertIs(is_run(book, f, one, worth), True)
+                    self.assertIs(is_run(book, f, one[:-1], worth), False)
+                    told = paired(book, f, one, other)
+                    self.assertEqual(sorted(told), list(range(len(one))))
+                    self.assertIs(is_paired(book, f, one, other, told), True)
+                    self.assertIs(is_paired(book, f, one, other, told[::-1]), len(told) == 1)
+
+    def test_elsewhere(self):
+        """By nets, lines, parcels and rows by turns, each time stopped anywhere."""
+        luck = chance(60)
+        for program in (NUMBERS, ROWS, TREES):
+            for tight in (False, True):
+                book = Book(program, tight=tight)
+                for f in shown_defs(program):
+                    worth, counts = meaning(program, f)
+                    whole = self.run_of(book, f, luck, 2000)
+                    run = self.run_of(book, f, luck, luck.randrange(whole.steps() + 1))
+                    steps = run.steps()
+                    run = Run(book, None, net=net_of(book, line_of(book, run.net_now())))
+                    run.go(picks(luck, 100), most=luck.randrange(100))
+                    steps += run.steps()
+                    here, there = House(), House()
+                    here.take_up("a", (program, f, tight, line_of(book, run.net_now()), tuple(sorted(run.counts().items()))))
+                    steps -= here.steps_now("a")
+                    here.go("a", picks(luck, 100), luck.randrange(100))
+                    there.take_up("b", here.send("a"))
+                    self.assertIs(there.go("b", picks(luck, 800), 2000), True)
+                    self.assertEqual(steps + there.steps_now("b"), whole.steps())
+                    self.assertEqual((there.worth_now("b"), there.is_ended_now("b")), (worth, True))
+                    one = Desk()
+                    one.say("tell " + program_text(program))
+                    one.say(("tight r " if tight else "begin r ") + f)
+                    for _ in range(5):
+                        one.say(f"go r {luck.randrange(60)}")
+                    self.assertEqual(one.say("go r 2000"), "ended")
+                    self.assertEqual((one.say("worth r"), one.say("steps r")), (term_text(worth), str(whole.steps())))
+
+    def test_what_is_refused_changes_nothing(self):
+        luck = chance(50)
+        for program in (NUMBERS, TREES):
+            one = House()
+            one.data(program[0])
+            one.define(program[1])
+            bad = [("data", program[0]), ("define", (("f", "n", "x"),)), ("forget", "three"), ("begin", "a", "three"), ("begin", "c", "add"), ("go", "c"), ("stop", "c"),
+                   ("take_up", "c", ()), ("take_up", "a", None), ("mark", "M"), ("back", "m"), ("batch", [("go", "a", [3], 9), ("stop", "a"), ("stop", "a")]), ("batch", ())]
+            for f in shown_defs(program):
+                worth, counts = meaning(program, f)
+                one.begin("a", f)
+                steps = 0
+                while not one.is_ended_now("a"):
+                    word, *things = luck.choice(bad)
+                    with self.assertRaises(OnceError):
+                        getattr(one, word)(*things)
+                    self.assertEqual(one.steps_now("a"), steps)
+                    one.go("a", picks(luck, 10), 10)
+                    steps = one.steps_now("a")
+                self.assertEqual((one.worth_now("a"), one.counts_now("a")), (worth, counts))
+                one.stop("a")
+            self.assertEqual((one.program_now(), one.runs_now()), (program, []))
 
 
 class NoEnd(unittest.TestCase):
