@@ -32,7 +32,7 @@ def is_of_row(book, ranks, net, agent):
 
 def net_of(book, line):
     """The net of a line, its agents numbered from 0 on; the line may be anything."""
-    if not isinstance(line, tuple) or len(line) == 0 or not all([is_whole(number) for number in line]):
+    if not isinstance(line, tuple) or not all([is_whole(number) for number in line]):
         raise NoLine("no row of whole numbers")
     net = Net()
     ends = read_agents(book, line, net)

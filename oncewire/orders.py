@@ -26,29 +26,35 @@ def taken_apart(net):
     """The agents that can be taken away in their order, and the links of those that can't."""
     told = []
     links = linked(net)
-    free = free_agents(net, links)
-    while free:
-        told.extend(free)
-        gone = {agent: True for agent in free}
-        links = {agent: {place: end for place, end in row.items() if end[0] not in gone}
-                 for agent, row in links.items() if agent not in gone}
-        free = free_agents(net, links)
+    many = -1
+    while len(told) != many:
+        many = len(told)
+        take_free(net, links, told)
     return (told, links)
 
 
-def free_agents(net, links):
-    """The agents from which no way leads back to them, but to the other lower port of a fork.
+def take_free(net, links, told):
+    """Takes away the agents that are free, and those that come to be so by that, as far as old bridges tell it."""
+    bridges = bridges_of(links)
+    waiting = list(links)
+    while waiting:
+        agent = waiting.pop()
+        if agent in links and is_free(net, links, bridges, agent):
+            told.append(agent)
+            for other, seat in list(links.pop(agent).values()):
+                if other != agent:
+                    del links[other][seat]
+                    waiting.append(other)
+
+
+def is_free(net, links, bridges, agent):
+    """Whether no way leads from an agent back to it, but from the one lower port of a fork to its other one.
 
     A way leads on from a port and back by another one just where its wire isn't the only way
     between its two ends; so a fork is free where this holds not of its head.
     """
-    bridges = bridges_of(links)
-    told = []
-    for agent, row in links.items():
-        places = [place for place in row if side_of(net, agent, place) != "lower"]
-        if all([(agent, place) in bridges for place in places]):
-            told.append(agent)
-    return told
+    places = [place for place in links[agent] if side_of(net, agent, place) != "lower"]
+    return all([(agent, place) in bridges for place in places])
 
 
 def bridges_of(links):

@@ -31,7 +31,6 @@ class Going:
 
 def begun(program, f, tight):
     """A new run of a def."""
-    shown_def_of(program, f)
     return Going(f, Run(Book(program, tight=tight), f), {})
 
 
@@ -70,7 +69,7 @@ def are_counts(program, thing):
     names = names_of_steps(program)
     for name, many in thing:
         # Only a row of texts may be looked for: no other thing needs to fit a dict.
-        if not is_row(name, 1, 2) or not all([isinstance(word, str) for word in name]):
+        if not isinstance(name, tuple) or not all([isinstance(word, str) for word in name]):
             return False
         if name not in names or not is_whole(many) or many < 1:
             return False

@@ -85,11 +85,8 @@ class Words:
         heads = [1 + self.put(symbol, lower) for symbol, lower in symbols]
         for (at, place), (to, seat) in ties:
             # A port of those that went is a joint of two wires: what it was tied to, and this tie.
+            # There are no rings here, so these two joints aren't tied to one another outside, too.
             one = heads[at] + place if at >= 0 else outer.pop((at, place))
-            if one == (to, seat):
-                # These two are tied to one another outside, too: a wire without an end.
-                del outer[one]
-                continue
             other = heads[to] + seat if to >= 0 else outer.pop((to, seat))
             self.link(outer, one, other)
 

@@ -85,7 +85,7 @@ class Rows(OneDesk):
 
     def test_words_too_few_and_too_many(self):
         one = desk("begin a four", "mark m")
-        rows = ["", " ", "tell", "forget", "forget two four", "begin", "begin b", "begin b four x", "tight b", "tight b four x", "stop", "stop a a", "mark", "mark b b", "back", "back m m",
+        rows = ["", " ", "stop ", "stop  ", "worth ", "mean ", "forget ", "mark ", "back ", "begin  four", "begin b ", "begin  ", "tight  ", "go  3", "go a ", "go  ", "tell", "forget", "forget two four", "begin", "begin b", "begin b four x", "tight b", "tight b four x", "stop", "stop a a", "mark", "mark b b", "back", "back m m",
                 "go", "go a", "go a 1 1", "worth", "worth a a", "steps", "steps a a", "counts", "counts a a", "mean", "mean four four", "runs a", "program a", "batch", "batch a", "send a",
                 "take_up b c", "data", "define", "log", "copy", "a", "Runs", "RUNS", "runs.", "net a", "say runs", "is_ended a", "program_now"]
         for row in rows:

@@ -136,6 +136,9 @@ class Lines(unittest.TestCase):
         ]
         for symbol in rows:
             lower = BOOK.lower(symbol) if BOOK.rules.has(symbol) else 0
+            if symbol[0] == "choose" and isinstance(symbol[1], bool):
+                # A truth is no number, though Python takes it for one.
+                lower = BOOK.lower(("choose", int(symbol[1])))
             for net in (hand([(symbol, lower)], []), hand([("make", "z"), (symbol, lower), ("drop", "n")], [((0, 0), (2, 0))])):
                 with self.assertRaises(NoSymbol):
                     line_of(BOOK, net)

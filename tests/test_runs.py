@@ -69,6 +69,13 @@ class Laid(unittest.TestCase):
                 if end is not None:
                     found.add(frozenset([(n, place), end]))
         self.assertEqual(found, {frozenset(tie) for tie in ties})
+        # Nothing of what went is left: it is like a net that was never other.
+        other = Net()
+        for n in sorted(agents):
+            other.put(agents[n], BOOK.lower(agents[n]), at=n)
+        for one, end in ties:
+            other.tie(one, end)
+        self.assertEqual(told, other)
         self.assertEqual(told.put(("x",)), following)
 
     def test_a_def_opens(self):
@@ -615,6 +622,18 @@ class ByHand(unittest.TestCase):
             run.beat(hands=2)
         self.assertEqual(run.done(), [(0, 1), (2,)])
         self.assertEqual(run.moves_now(), [(3, 4), (5, 6), (7, 8)])
+
+    def test_a_truth_is_no_number_of_a_choice(self):
+        z, one, other = ("make", "z"), ("choose", 1), ("choose", True)
+        self.assertEqual(one, other)
+        net = hand([z, one, z, (other, BOOK.lower(one))], [((0, 0), (1, 0)), ((2, 0), (3, 0))])
+        run = Run(BOOK, None, net=net)
+        run.do((0, 1))
+        with self.assertRaises(NoRule):
+            run.do((2, 3))
+        with self.assertRaises(NoRule):
+            run.copy().go()
+        self.assertEqual(run.moves_now(), [(2, 3)])
 
     def test_numbers_go_on(self):
         net = Net()

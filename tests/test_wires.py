@@ -126,6 +126,10 @@ class PortKinds(unittest.TestCase):
             with self.assertRaises(NoSymbol):
                 port_kind(BOOK, symbol, 0)
 
+    def test_a_data_kind_of_one_maker(self):
+        book = Book(read_program("(= d (m)) (@ f (> d (> d (* d d))) (^ x d (^ y d (? x (m : (+ y v w (& v w)))))))"))
+        self.assertEqual([port_kind(book, ("choose", 0), place) for place in range(3)], [("-", "d"), ("+", ("*", "d", "d")), ("-", "d")])
+
     def test_beside_another_way(self):
         for program in programs(chance(61), 60, wide=60, deep=10, wild=0.2):
             book = Book(program)
@@ -200,8 +204,9 @@ class Unfit(unittest.TestCase):
         with self.assertRaises(NoSymbol):
             unfit(BOOK, net)
         net.take_away(1)
-        with self.assertRaises(NoPort):
-            unfit(BOOK, net)
+        for lower in (1, 2):
+            with self.assertRaises(NoPort):
+                unfit(BOOK, net_of([("make", "z"), (("drop", "n"), lower)], []))
 
     def test_new_each_time(self):
         net = net_of([("drop", "n")], [])
@@ -287,6 +292,13 @@ class Ways(unittest.TestCase):
         with self.assertRaises(TypeError):
             way(net, (0, 0))
 
+    def test_not_just_one_out(self):
+        for net in (Net(), net_of([("make", "z")], []), net_of([("out", "n"), ("out", "n")], [])):
+            with self.assertRaises(NoPort):
+                way(net)
+            with self.assertRaises(NoPort):
+                way(net, port=None)
+
     def test_new_each_time(self):
         net = self.net()
         way(net)[0].clear()
@@ -353,7 +365,7 @@ class Rings(unittest.TestCase):
             for at in range(4):
                 self.assertIs(is_ring(net, row[at:] + row[:at]), True)
         self.assertIn(sorted(ring_in(net)), (sorted(ring), sorted(about)))
-        wrong = [ring[:3], ring[1:], ring + ring, ring + ring[:1], ring[::-1], [], [ring[1], ring[0], ring[2], ring[3]], tuple(ring),
+        wrong = [[(0, False, 1)] + ring[1:], ring[:1] + [(1, False, 2)] + ring[2:], ring[:3], ring[1:], ring + ring, ring + ring[:1], ring[::-1], [], [ring[1], ring[0], ring[2], ring[3]], tuple(ring),
                  [list(row) for row in ring], ring[:3] + [(3, 1, 0)], ring[:3] + [(3, 0, 2)], ring[:3] + [(3, 2, 1)], ring[:3] + [(3, 2, 2)],
                  ring[:3] + [(3, 2, 3)], ring[:3] + [(3, 2, -1)], ring[:3] + [(3, 2)], ring[:3] + [(3, 2, 0, 0)], ring[:3] + [(9, 2, 0)],
                  ring[:3] + [(3, 2, False)], [(False, 0, 1)] + ring[1:], [(0, 0, True)] + ring[1:], ring[:1] + [(True, 0, 2)] + ring[2:],
