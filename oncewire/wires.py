@@ -78,29 +78,24 @@ def ring_in(net):
     """A ring of a net, or None."""
     _, links = taken_apart(net)
     # Where nothing is left there is an order, so no ring.
-    for agent in links:
-        for out in links[agent]:
-            found = ring_on(net, links, [(agent, None, out)])
-            if found is not None:
-                return found
+    waiting = [[(agent, None, out)] for agent in links for out in links[agent]]
+    while waiting:
+        path = waiting.pop()
+        start, _, first = path[0]
+        last, _, out = path[-1]
+        agent, came = links[last][out]
+        if agent == start and side_of(net, start, came) != side_of(net, start, first):
+            return [(start, came, first)] + path[1:]
+        waiting.extend(longer_paths(net, links, path, agent, came))
     return None
 
 
-def ring_on(net, links, path):
-    """A ring that begins with a path of agents, or None; how its first one is come to is still open."""
-    start, _, first = path[0]
-    last, _, out = path[-1]
-    agent, came = links[last][out]
-    if agent == start:
-        return None if side_of(net, start, came) == side_of(net, start, first) else [(start, came, first)] + path[1:]
+def longer_paths(net, links, path, agent, came):
+    """The paths that a path of agents is the begin of, with one more agent that is come to by this place."""
     if agent in [one for one, _, _ in path]:
-        return None
-    for place in links[agent]:
-        if side_of(net, agent, place) != side_of(net, agent, came):
-            found = ring_on(net, links, path + [(agent, came, place)])
-            if found is not None:
-                return found
-    return None
+        return []
+    side = side_of(net, agent, came)
+    return [path + [(agent, came, place)] for place in links[agent] if side_of(net, agent, place) != side]
 
 
 def is_ring(net, thing):

@@ -462,6 +462,22 @@ class Rings(unittest.TestCase):
         self.assertIs(is_order(net, order), True)
         self.assertTrue(all(is_order(net, order[at:] + order[:at]) for at in range(0, 800, 50)))
         self.assertIsNone(ring_in(net))
+        # A thousand functions within one another, what they name brought together at the end.
+        many = 1000
+        net = net_of([("fun", "n", "n")] * many + [("pair", "n", "n")] * many, [((n, 2), (n + 1, 0)) for n in range(many - 1)])
+        for n in range(many):
+            net.tie((n, 1), (many + n, 1))
+        for n in range(many, 2 * many - 1):
+            net.tie((n, 2), (n + 1, 0))
+        net.tie((many - 1, 2), (many, 0))
+        order = order_in(net)
+        self.assertIs(is_order(net, order), True)
+        self.assertIsNone(ring_in(net))
+        self.assertIs(is_order(net, order[::-1]), False)
+        # Far more ports than are handed in: a ring of all calls.
+        net = net_of([("call", "n", "n")] * many, [((n, 0), ((n + 1) % many, 2)) for n in range(many)])
+        self.assertIs(is_ring(net, ring_in(net)), True)
+        self.assertIsNone(order_in(net))
         self.assertLess(time.process_time() - begun, 20)
 
 
